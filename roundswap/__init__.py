@@ -1,0 +1,1 @@
+"""Words with opposites, whose round stretches may be swapped."""

@@ -1,0 +1,178 @@
+"""Tests that the package keeps to the rules of the language subset that a reader of its code can check plainly.
+
+The names of the tests have the numbers of the rules.
+"""
+
+import ast
+import builtins
+import pathlib
+import re
+import unittest
+
+PACKAGE = pathlib.Path(__file__).resolve().parent.parent / "roundswap"
+
+# What each file must define itself, as the document's interface lists it.
+INTERFACE = {
+    "words": ["is_word", "opposite", "shortened", "counts", "precedes", "words_of"],
+    "phrases": ["read_word", "format_word"],
+    "tables": ["Table", "Table.rows", "Table.width", "Table.size", "Table.place", "Table.__contains__", "Table.places",
+               "Table.covers", "Table.joined", "Table.__eq__", "Table.__repr__", "tables_of"],
+}
+BUILTINS = set("""
+    len range enumerate zip min max sum abs sorted reversed int str bool bytes list tuple dict set frozenset isinstance
+    ord repr any all divmod iter next super property staticmethod classmethod Exception ValueError TypeError KeyError
+    IndexError LookupError ZeroDivisionError ArithmeticError OverflowError RuntimeError NotImplementedError
+    AttributeError StopIteration NotImplemented
+""".split())
+METHODS = set("""
+    append clear copy count endswith extend find get index insert isalnum isalpha isdigit islower isspace isupper items
+    join keys ljust lower lstrip partition pop remove replace reverse rfind rjust rpartition rsplit rstrip setdefault
+    split splitlines startswith strip update upper values zfill bit_length title capitalize swapcase casefold center
+    expandtabs removeprefix removesuffix rindex isascii isdecimal isnumeric istitle isidentifier isprintable translate
+    sort add discard
+""".split())
+SPECIAL_METHODS = set("""
+    __init__ __eq__ __repr__ __str__ __len__ __enter__ __exit__ __call__ __iter__ __bool__ __contains__
+""".split())
+SPECIAL = re.compile(r"__[a-z]+__")
+BARRED_WORDS = re.compile(
+    r"\b(type|typing|typing_extensions|enum|Enum|IntEnum|StrEnum|Flag|IntFlag|Generic|Protocol|ABC|ABCMeta|namedtuple"
+    r"|NamedTuple|TypedDict|TYPE_CHECKING|abstractmethod)\b|dataclass|overload|contextmanager"
+)
+BARRED_NAMES = {"register", "mro", "elements", "open", "input", "law", "version_info", "with_traceback", "add_note"}
+LIST_TAKERS = {"any", "all", "min", "max", "sum", "sorted"}
+
+
+def sources():
+    """Return the text of each file of the package by its name without ending."""
+    return {path.stem: path.read_text() for path in sorted(PACKAGE.glob("*.py"))}
+
+
+def nodes(kind):
+    """Return the pairs of a place in the package and each node of a kind."""
+    found = []
+    for name, text in sources().items():
+        some = [node for node in ast.walk(ast.parse(text)) if isinstance(node, kind)]
+        found += [(f"{name}.py:{getattr(node, 'lineno', 0)}", node) for node in some]
+    return found
+
+
+def methods_and_attributes():
+    """Return the names of all own methods, and those of all attributes that are assigned."""
+    methods = {part.name for at, one in nodes(ast.ClassDef) for part in one.body if isinstance(part, ast.FunctionDef)}
+    stored = {node.attr for at, node in nodes(ast.Attribute) if isinstance(node.ctx, ast.Store)}
+    return methods, stored
+
+
+def defined_in(name):
+    """Return the functions, classes and methods that a file defines."""
+    found = set()
+    for node in ast.parse(sources()[name]).body:
+        if isinstance(node, (ast.FunctionDef, ast.ClassDef)):
+            found.add(node.name)
+        if isinstance(node, ast.ClassDef):
+            found |= {f"{node.name}.{part.name}" for part in node.body if isinstance(part, ast.FunctionDef)}
+    return found
+
+
+def imports_of(name):
+    """Return the import statements of a file."""
+    return [node for node in ast.walk(ast.parse(sources()[name])) if isinstance(node, (ast.Import, ast.ImportFrom))]
+
+
+class LanguageTest(unittest.TestCase):
+    def test_interface_is_defined_in_its_own_file(self):
+        for name, listed in INTERFACE.items():
+            self.assertEqual(set(listed) - defined_in(name), set(), name)
+
+    def test_l1_l14_files_and_characters(self):
+        for path in PACKAGE.iterdir():
+            if path.name != "__pycache__":
+                self.assertRegex(path.name, r"^[a-z_][a-z0-9_]*\.py$")
+        for name, text in sources().items():
+            self.assertEqual([mark for mark in text if not (" " <= mark <= "~" or mark == "\n")], [], name)
+
+    def test_l2_l16_imports(self):
+        for name in sources():
+            for node in imports_of(name):
+                self.assertIsInstance(node, ast.ImportFrom, name)
+                package, inner = node.module.split(".")
+                self.assertEqual((package, node.level), ("roundswap", 0), name)
+                self.assertEqual({alias.name for alias in node.names} - defined_in(inner), set(), name)
+
+    def test_l16_no_circles_of_imports(self):
+        above = {name: {node.module.split(".")[1] for node in imports_of(name)} for name in sources()}
+        while above:
+            free = [name for name in above if not above[name] & set(above)]
+            self.assertTrue(free, above)
+            for name in free:
+                del above[name]
+
+    def test_l4_l5_decorators_and_special_methods(self):
+        for at, node in nodes((ast.FunctionDef, ast.ClassDef)):
+            decorators = [ast.unparse(one) for one in node.decorator_list]
+            self.assertRegex(" ".join(decorators), r"^(|property|[a-z_]+\.setter|staticmethod|classmethod)$", at)
+            self.assertTrue(not node.name.startswith("__") or node.name in SPECIAL_METHODS, at)
+
+    def test_l6_statements(self):
+        self.assertEqual(nodes((ast.AsyncFunctionDef, ast.Global)), [])
+
+    def test_l7_expressions(self):
+        self.assertEqual([at for at, node in nodes(ast.Constant) if isinstance(node.value, float)], [])
+        self.assertEqual(nodes(ast.Div), [])
+        for at, node in nodes(ast.Call):
+            if isinstance(node.func, ast.Name) and node.func.id in LIST_TAKERS:
+                self.assertEqual([one for one in node.args if isinstance(one, ast.GeneratorExp)], [], at)
+
+    def test_l8_builtins(self):
+        for at, node in nodes(ast.Name):
+            if hasattr(builtins, node.id):
+                self.assertIn(node.id, BUILTINS, at)
+                self.assertIsInstance(node.ctx, ast.Load, at)
+        for at, node in nodes(ast.arg):
+            self.assertFalse(hasattr(builtins, node.arg), at)
+
+    def test_l10_sizes(self):
+        for name, text in sources().items():
+            self.assertLess(len(text.splitlines()), 400, name)
+            self.assertLessEqual(max(len(line) for line in text.splitlines()), 120, name)
+        for at, node in nodes(ast.FunctionDef):
+            self.assertLessEqual(node.end_lineno - node.lineno + 1, 40, at)
+
+    def test_l12_l17_names(self):
+        names = [(at, node.id) for at, node in nodes(ast.Name)] + [(at, node.arg) for at, node in nodes(ast.arg)]
+        names += [(at, node.attr) for at, node in nodes(ast.Attribute)]
+        names += [(at, node.name) for at, node in nodes((ast.FunctionDef, ast.ClassDef))]
+        for at, name in names:
+            self.assertNotIn(name, BARRED_NAMES, at)
+            self.assertTrue(not name.startswith("_") or SPECIAL.fullmatch(name), (at, name))
+        for name, text in sources().items():
+            self.assertIsNone(BARRED_WORDS.search(text), name)
+
+    def test_l18_no_name_is_a_method_and_an_attribute(self):
+        methods, stored = methods_and_attributes()
+        self.assertEqual(methods & stored, set())
+
+    def test_l20_is(self):
+        for at, node in nodes(ast.Compare):
+            for sign, right in zip(node.ops, node.comparators):
+                if isinstance(sign, (ast.Is, ast.IsNot)):
+                    self.assertIn(ast.unparse(right), ("None", "True", "False"), at)
+
+    def test_l23_no_other_function_has_the_name_of_a_generator(self):
+        functions = [node for at, node in nodes(ast.FunctionDef)]
+        yielding = [one.name for one in functions
+                    if any(isinstance(node, (ast.Yield, ast.YieldFrom)) for node in ast.walk(one))]
+        names = [one.name for one in functions]
+        self.assertEqual([name for name in yielding if names.count(name) > 1], [])
+
+    def test_l25_methods(self):
+        methods, stored = methods_and_attributes()
+        for at, node in nodes(ast.Attribute):
+            self.assertIn(node.attr, METHODS | methods | stored, at)
+
+    def test_l27_strings(self):
+        for at, node in nodes(ast.Constant):
+            if isinstance(node.value, str):
+                self.assertNotIn("%", node.value, at)
+        self.assertEqual([at for at, node in nodes(ast.Name) if node.id == "chr"], [])
