@@ -125,6 +125,11 @@ def less(row, other, times):
     return tuple([number - times * taken for number, taken in zip(row, other)])
 
 
+def added(one, other):
+    """Return the sum of two tuples of numbers."""
+    return less(one, other, -1)
+
+
 def reduced(counts, rows):
     """Return the tuple that names the place of counts, by normal rows."""
     found = counts

@@ -40,6 +40,11 @@ def shortened(word):
 def counts(word, letters):
     """Return for each letter how often it occurs, less how often its capital does."""
     check_words([word], letters)
+    return counts_of(word, letters)
+
+
+def counts_of(word, letters):
+    """Return the counts of what is known to be a word."""
     return tuple([word.count(letter) - word.count(letter.upper()) for letter in letters])
 
 

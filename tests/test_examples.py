@@ -4,7 +4,10 @@ import unittest
 
 from roundswap.errors import ParseError
 from roundswap.phrases import format_word, read_word
+from roundswap.sums import is_sum
 from roundswap.tables import Table
+from roundswap.tolls import TollTown
+from roundswap.towns import Town
 
 
 class ExamplesTest(unittest.TestCase):
@@ -21,3 +24,23 @@ class ExamplesTest(unittest.TestCase):
         table = Table(2, [(4, 2), (2, -2)])
         found = [table.rows(), table.size, table.place((5, 5)), (6, 0) in table]
         self.assertEqual(found, [[(2, 4), (0, 6)], 12, (1, 3), True])
+
+    def test_sum(self):
+        town = Town("ta", ("taT", "aa"))
+        found = [is_sum(town, "ttaTT", "aaaa", [((1, 0), 0, 1), ((0, 0), 0, 2)]), town.table.rows()]
+        self.assertEqual(found, [True, [(0, 1)]])
+
+    def test_toll_town(self):
+        tolls = TollTown(Table(2, [(2, 0), (0, 1)]), 3, [(0, 1), (0, 2)])
+        found = [tolls.keeps(Town("ta", ("taT", "aa"))), tolls.end("at", "ta"), tolls.end("ta", "ta")]
+        self.assertEqual(found, [True, ((1, 0), 1), ((1, 0), 2)])
+
+    def test_text_of_a_town(self):
+        self.assertEqual(Town("ta", ("taT", "aa")).text(), "ta; t a t^-1 = a^2")
+        self.assertEqual(Town.read("ta; t a t^-1 = a^2"), Town("ta", ("taT", "aa")))
+
+    def test_what_repr_returns(self):
+        town = Town("ta", ("taT", "aa"), ("", ""), ("a", "a"))
+        tolls = TollTown(Table(2, [(2, 1), (0, 3)]), 7, [(0, 0)] * 6)
+        self.assertEqual([repr(town), repr(tolls), repr(town.walk_of("tta"))],
+                         ["Town(2 letters, 3 rules)", "TollTown(6 places, modulus 7)", "Walk(3 streets)"])

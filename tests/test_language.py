@@ -17,6 +17,15 @@ INTERFACE = {
     "phrases": ["read_word", "format_word"],
     "tables": ["Table", "Table.rows", "Table.width", "Table.size", "Table.place", "Table.__contains__", "Table.places",
                "Table.covers", "Table.joined", "Table.__eq__", "Table.__repr__", "tables_of"],
+    "walks": ["Walk", "Walk.of", "Walk.table", "Walk.streets", "Walk.at_street", "Walk.ends", "Walk.moved", "Walk.times",
+              "Walk.plus", "Walk.minus", "Walk.__len__", "Walk.__eq__", "Walk.__repr__"],
+    "towns": ["Town", "Town.MOST", "Town.letters", "Town.width", "Town.table", "Town.rules", "Town.__len__",
+              "Town.comes_round", "Town.place_of", "Town.walk_of", "Town.moved_rule", "Town.with_rules", "Town.without",
+              "Town.joined", "Town.__eq__", "Town.__repr__", "Town.text", "Town.read"],
+    "tolls": ["TollTown", "TollTown.table", "TollTown.modulus", "TollTown.size", "TollTown.tolls", "TollTown.toll",
+              "TollTown.end", "TollTown.parts", "TollTown.fault", "TollTown.keeps", "TollTown.__eq__",
+              "TollTown.__repr__", "toll_count"],
+    "sums": ["is_sum", "size_of_sum", "sum_within"],
 }
 BUILTINS = set("""
     len range enumerate zip min max sum abs sorted reversed int str bool bytes list tuple dict set frozenset isinstance
@@ -41,6 +50,7 @@ BARRED_WORDS = re.compile(
 )
 BARRED_NAMES = {"register", "mro", "elements", "open", "input", "law", "version_info", "with_traceback", "add_note"}
 LIST_TAKERS = {"any", "all", "min", "max", "sum", "sorted"}
+NOT_STORED = {"zip", "enumerate", "reversed", "range", "items", "keys", "values"}
 
 
 def sources():
@@ -64,14 +74,25 @@ def methods_and_attributes():
     return methods, stored
 
 
+def class_values():
+    """Return the names of all class values."""
+    return {ast.unparse(part.targets[0]) for at, one in nodes(ast.ClassDef) for part in one.body
+            if isinstance(part, ast.Assign)}
+
+
+def names_bound(body):
+    """Return the names of the functions, classes and plain values that stand in a body."""
+    found = {node.name for node in body if isinstance(node, (ast.FunctionDef, ast.ClassDef))}
+    return found | {ast.unparse(node.targets[0]) for node in body if isinstance(node, ast.Assign)}
+
+
 def defined_in(name):
-    """Return the functions, classes and methods that a file defines."""
-    found = set()
-    for node in ast.parse(sources()[name]).body:
-        if isinstance(node, (ast.FunctionDef, ast.ClassDef)):
-            found.add(node.name)
+    """Return the functions, classes, plain values, methods and class values that a file defines."""
+    body = ast.parse(sources()[name]).body
+    found = names_bound(body)
+    for node in body:
         if isinstance(node, ast.ClassDef):
-            found |= {f"{node.name}.{part.name}" for part in node.body if isinstance(part, ast.FunctionDef)}
+            found |= {f"{node.name}.{part}" for part in names_bound(node.body)}
     return found
 
 
@@ -108,11 +129,31 @@ class LanguageTest(unittest.TestCase):
             for name in free:
                 del above[name]
 
+    def test_l3_module_level(self):
+        allowed = (ast.FunctionDef, ast.ClassDef, ast.ImportFrom, ast.Assign)
+        for name, text in sources().items():
+            docstring, *body = ast.parse(text).body
+            self.assertIsInstance(docstring.value.value, str, name)
+            for node in body:
+                self.assertIsInstance(node, allowed, name)
+                if isinstance(node, ast.Assign):
+                    self.assertEqual([type(one) for one in node.targets], [ast.Name], name)
+                    ast.literal_eval(node.value)
+
     def test_l4_l5_decorators_and_special_methods(self):
         for at, node in nodes((ast.FunctionDef, ast.ClassDef)):
             decorators = [ast.unparse(one) for one in node.decorator_list]
             self.assertRegex(" ".join(decorators), r"^(|property|[a-z_]+\.setter|staticmethod|classmethod)$", at)
             self.assertTrue(not node.name.startswith("__") or node.name in SPECIAL_METHODS, at)
+
+    def test_l5_names_of_properties_and_class_methods(self):
+        methods, stored = methods_and_attributes()
+        functions = [part for at, one in nodes(ast.ClassDef) for part in one.body if isinstance(part, ast.FunctionDef)]
+        marked = {(part.name, ast.unparse(part.decorator_list[0])) for part in functions if part.decorator_list}
+        taken = {part.name for part in functions if not part.decorator_list} | stored | class_values() | METHODS
+        for name, decorator in marked:
+            self.assertNotIn(name, taken)
+            self.assertEqual({other for one, other in marked if one == name}, {decorator})
 
     def test_l6_statements(self):
         self.assertEqual(nodes((ast.AsyncFunctionDef, ast.Global)), [])
@@ -149,6 +190,19 @@ class LanguageTest(unittest.TestCase):
         for name, text in sources().items():
             self.assertIsNone(BARRED_WORDS.search(text), name)
 
+    def test_l15_one_binding_for_each_name(self):
+        values = class_values()
+        for name, text in sources().items():
+            body = ast.parse(text).body
+            imported = [alias.name for node in imports_of(name) for alias in node.names]
+            bound = imported + sorted(names_bound(body))
+            self.assertEqual(len(bound), len(set(bound)), name)
+            classes = {node.name for node in body if isinstance(node, ast.ClassDef)}
+            inner = {one.arg for one in ast.walk(ast.parse(text)) if isinstance(one, ast.arg)}
+            inner |= {one.id for node in body if isinstance(node, (ast.FunctionDef, ast.ClassDef))
+                      for one in ast.walk(node) if isinstance(one, ast.Name) and isinstance(one.ctx, ast.Store)}
+            self.assertEqual(inner & (classes | set(imported)) - values, set(), name)
+
     def test_l18_no_name_is_a_method_and_an_attribute(self):
         methods, stored = methods_and_attributes()
         self.assertEqual(methods & stored, set())
@@ -166,10 +220,24 @@ class LanguageTest(unittest.TestCase):
         names = [one.name for one in functions]
         self.assertEqual([name for name in yielding if names.count(name) > 1], [])
 
+    def test_l23_iterated_on_the_spot(self):
+        for at, node in nodes((ast.Assign, ast.Return)):
+            if isinstance(node.value, ast.Call):
+                called = ast.unparse(node.value.func).split(".")[-1]
+                self.assertNotIn(called, NOT_STORED, at)
+
+    def test_l24_no_sets(self):
+        self.assertEqual(nodes((ast.Set, ast.SetComp)), [])
+        self.assertEqual([at for at, node in nodes(ast.Name) if node.id in ("set", "frozenset")], [])
+
     def test_l25_methods(self):
         methods, stored = methods_and_attributes()
+        known = METHODS | methods | stored | class_values()
         for at, node in nodes(ast.Attribute):
-            self.assertIn(node.attr, METHODS | methods | stored, at)
+            self.assertIn(node.attr, known, at)
+
+    def test_l27_no_powers(self):
+        self.assertEqual(nodes(ast.Pow), [])
 
     def test_l27_strings(self):
         for at, node in nodes(ast.Constant):

@@ -1,22 +1,16 @@
 """Tests of tables: point 6, interface section roundswap/tables.py."""
 
 import itertools
-import math
 import random
 import types
 import unittest
 
+from reckoning import BIG, lead_of, minors_of, random_rows
 from roundswap.errors import Endless, InvalidCounts, InvalidNumber, InvalidTable, Unlike
 from roundswap.tables import Table, tables_of
 
 # Values that are no tuples of 2 numbers.
 NO_PAIRS = [(), (1,), (1, 2, 3), (1, True), (False, 0), ("1", 2), (1, None), (None, None), ("", ""), ((1,), 2), [1, 2], "ab"]
-BIG = 10 ** 29 + 319
-
-
-def lead_of(row):
-    """Return the column of the first number that is not 0."""
-    return min(at for at, number in enumerate(row) if number != 0)
 
 
 def is_normal(rows):
@@ -41,27 +35,6 @@ def is_sum_of_normal(counts, rows):
     return not any(counts)
 
 
-def determinant(rows):
-    """Return the determinant of a square of numbers."""
-    if not rows:
-        return 1
-    minors = [[row[:at] + row[at + 1:] for row in rows[1:]] for at in range(len(rows))]
-    return sum((-1) ** at * rows[0][at] * determinant(minor) for at, minor in enumerate(minors))
-
-
-def minors_of(rows, width):
-    """Return, for each number of rows up to the width, the divisor of all minors.
-
-    Where the sums of one list are sums of another one, both lists have the
-    same sums exactly if these divisors are equal.
-    """
-    found = []
-    for size in range(1, width + 1):
-        squares = itertools.product(itertools.combinations(rows, size), itertools.combinations(range(width), size))
-        found.append(math.gcd(*[determinant([[row[at] for at in ats] for row in some]) for some, ats in squares]))
-    return found
-
-
 def closure(rows, width, modulus):
     """Return all sums modulo a number, by adding rows until nothing is new."""
     found, fresh = {(0,) * width}, [(0,) * width]
@@ -78,10 +51,6 @@ def closure(rows, width, modulus):
 def multiples(width, modulus):
     """Return the rows with one number, the modulus, and else 0."""
     return [tuple(modulus if at == column else 0 for at in range(width)) for column in range(width)]
-
-
-def random_rows(source, width, many, most):
-    return [tuple(source.randint(-most, most) for at in range(width)) for row in range(many)]
 
 
 class TableCase(unittest.TestCase):
