@@ -3,6 +3,7 @@
 from roundswap.checks import is_number, is_number_from, is_number_tuple
 from roundswap.equations import ONE, solution
 from roundswap.errors import InvalidNumber
+from roundswap.tables import distance
 from roundswap.walks import Walk
 from roundswap.words import check_words
 
@@ -42,11 +43,6 @@ def total_of(town, rows):
 def size_of_sum(rows):
     """Return the size of a sum."""
     return sum([abs(count) * (1 + distance(place)) for place, number, count in rows])
-
-
-def distance(place):
-    """Return the sum of the absolute numbers of a place."""
-    return sum([abs(number) for number in place])
 
 
 def sum_within(town, one, other, reach):

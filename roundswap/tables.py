@@ -78,9 +78,8 @@ def tables_of(table, index):
         raise InvalidNumber(index)
     width = table.width
     needed = table.rows()
-    for rows in all_normal_rows(width, index):
-        if are_sums(needed, rows):
-            yield Table(width, rows)
+    for rows in covering_rows(needed, width, index):
+        yield Table(width, rows)
 
 
 def normal_rows(rows, width):
@@ -130,6 +129,11 @@ def added(one, other):
     return less(one, other, -1)
 
 
+def distance(counts):
+    """Return the sum of the absolute numbers of a tuple."""
+    return sum([abs(number) for number in counts])
+
+
 def reduced(counts, rows):
     """Return the tuple that names the place of counts, by normal rows."""
     found = counts
@@ -175,24 +179,26 @@ def tuples_below(sides):
             yield (*head, number)
 
 
-def all_normal_rows(width, index):
-    """Return the normal rows of all tables with an index, ascending."""
-    return sorted([rows for diagonal in diagonals(width, index) for rows in rows_with(diagonal)])
+def covering_rows(needed, width, index):
+    """Return the normal rows, ascending, of all tables with an index whose sums contain the needed normal rows.
+
+    They are built from the last row to the first one, because a needed row is
+    a sum of those rows only that do not lead ahead of it.
+    """
+    found = [([], index)]
+    for at in reversed(range(width)):
+        here = [row for row in needed if lead_at(row) == at]
+        found = [(rows, rest // rows[0][at]) for below, rest in found for rows in rows_above(below, rest, at)
+                 if are_sums(here, rows)]
+    return sorted([rows for rows, rest in found])
 
 
-def diagonals(width, index):
-    """Return all tuples of positive numbers with this product."""
-    if width == 1:
-        return [(index,)]
-    leads = [lead for lead in range(1, index + 1) if index % lead == 0]
-    return [(lead, *rest) for lead in leads for rest in diagonals(width - 1, index // lead)]
+def rows_above(below, product, at):
+    """Return the normal rows below with each row on top of them that leads in this column.
 
-
-def rows_with(diagonal):
-    """Return all lists of normal rows with these leading numbers."""
-    found = [[]]
-    for at, lead in enumerate(diagonal):
-        sides = diagonal[at + 1:]
-        tails = list(tuples_below(sides))
-        found = [[*rows, (0,) * at + (lead,) + tail] for rows in found for tail in tails]
-    return found
+    The leading number divides the product, and is all of it in the first column.
+    """
+    leads = [lead for lead in range(1, product + 1) if product % lead == 0] if at > 0 else [product]
+    sides = diagonal_of(below)
+    tails = list(tuples_below(sides))
+    return [[(0,) * at + (lead,) + tail, *below] for lead in leads for tail in tails]

@@ -10,8 +10,7 @@ def signs_of(letters):
 
 def is_word(word, letters):
     """Return whether a string is a word for the letters."""
-    signs = signs_of(letters)
-    return all([sign in signs for sign in word])
+    return sum([word.count(sign) for sign in signs_of(letters)]) == len(word)
 
 
 def check_words(words, letters):
@@ -46,6 +45,12 @@ def counts(word, letters):
 def counts_of(word, letters):
     """Return the counts of what is known to be a word."""
     return tuple([word.count(letter) - word.count(letter.upper()) for letter in letters])
+
+
+def path_to(numbers, letters):
+    """Return a word with these counts."""
+    return "".join([(letter if number > 0 else letter.upper()) * abs(number)
+                    for letter, number in zip(letters, numbers)])
 
 
 def precedes(one, other, letters):

@@ -112,3 +112,130 @@ def raised(call):
         fields = {name: value for name, value in vars(error).items() if name != "tag"}
         return (error.tag, *fields.values())
     return None
+
+
+def mirrored(word):
+    """Return the opposite of a word."""
+    return "".join(sign.swapcase() for sign in reversed(word))
+
+
+def random_rule(source, letters, most):
+    return random_word(source, letters, 0, most), random_word(source, letters, 0, most)
+
+
+def random_level_rule(source, letters, most):
+    """Return a rule whose sides have the same counts."""
+    word = random_word(source, letters, 0, most)
+    return word, "".join(source.sample(word, len(word)))
+
+
+def ends_on_way(town, word):
+    """Return the places at which the steps of a word begin and end."""
+    rows = town.table.rows()
+    start = (0,) * len(town.letters)
+    return [name_of(rows, start)] + [there for street, forward, there in steps(rows, word, town.letters, start)]
+
+
+def random_step(source, town, word):
+    """Return a possible step of a drawn kind, and the word behind it, or None if there is none of the kind."""
+    kind = source.choice(["put", "drop", "rule", "swap"])
+    if kind == "put":
+        at, sign = source.randint(0, len(word)), source.choice(town.letters + town.letters.upper())
+        return ("put", at, sign), word[:at] + sign + sign.swapcase() + word[at:]
+    if kind == "drop":
+        choices = [at for at in range(len(word) - 1) if word[at] == word[at + 1].swapcase()]
+        if choices:
+            at = source.choice(choices)
+            return ("drop", at), word[:at] + word[at + 2:]
+    if kind == "rule":
+        sides = [(number, forward, rule if forward else rule[::-1])
+                 for number, rule in enumerate(town.rules()) for forward in (True, False)]
+        choices = [(number, forward, at, old, new) for number, forward, (old, new) in sides
+                   for at in range(len(word) + 1) if word[at:].startswith(old)]
+        if choices:
+            number, forward, at, old, new = source.choice(choices)
+            return ("rule", number, forward, at), word[:at] + new + word[at + len(old):]
+    if kind == "swap":
+        places = ends_on_way(town, word)
+        at = source.randint(0, len(word))
+        ends = [end for end in range(at, len(word) + 1) if places[end] == places[at]]
+        middle, end = sorted([source.choice(ends), source.choice(ends)])
+        return ("swap", at, middle - at, end - middle), word[:at] + word[middle:end] + word[at:middle] + word[end:]
+    return None
+
+
+def steps_away(source, town, word, many, longest):
+    """Return the word behind so many drawn steps, as long as it is short enough, and the steps."""
+    taken = []
+    for turn in range(many):
+        found = random_step(source, town, word)
+        if found is not None and len(found[1]) <= longest:
+            taken.append(found[0])
+            word = found[1]
+    return word, taken
+
+
+def is_sum_by_steps(town, one, other, rows):
+    """Return whether rows are a sum for two words, step by step."""
+    numbers = range(len(town.rules()))
+    formed = all(len(place) == len(town.letters) and number in numbers and count != 0 for place, number, count in rows)
+    normal = town.table.rows()
+    start = (0,) * len(town.letters)
+    left = walk_by_steps(normal, one, town.letters, start)
+    for street, number in walk_by_steps(normal, other, town.letters, start).items():
+        left[street] = left.get(street, 0) - number
+    total = sum_by_steps(normal, town.rules(), town.letters, rows)
+    same_end = ends_on_way(town, one)[-1] == ends_on_way(town, other)[-1]
+    return formed and same_end and {street: number for street, number in left.items() if number != 0} == total
+
+
+def normal_tables(width, index):
+    """Return the normal rows of all tables of a width with an index, ascending."""
+    if width == 1:
+        return [[(index,)]]
+    found = []
+    for lead in [lead for lead in range(1, index + 1) if index % lead == 0]:
+        for below in normal_tables(width - 1, index // lead):
+            rows = [(0, *row) for row in below]
+            sides = [range(row[at + 1]) for at, row in enumerate(rows)]
+            found += [[(lead, *tail), *rows] for tail in itertools.product(*sides)]
+    return sorted(found)
+
+
+def places_of(rows):
+    """Return all places of a finite table, ascending."""
+    return list(itertools.product(*[range(row[at]) for at, row in enumerate(rows)]))
+
+
+def is_kept_by_steps(town, rows, modulus, tolls):
+    """Return whether both sides of each rule lead to one place at one toll, from each place."""
+    return all(end_by_steps(rows, modulus, tolls, one, town.letters, place)
+               == end_by_steps(rows, modulus, tolls, other, town.letters, place)
+               for one, other in town.rules() for place in places_of(rows))
+
+
+def is_parted_by_steps(letters, rows, modulus, tolls, one, other):
+    """Return whether two words lead from the place of zeros to different places or at different tolls."""
+    start = (0,) * len(letters)
+    return (end_by_steps(rows, modulus, tolls, one, letters, start)
+            != end_by_steps(rows, modulus, tolls, other, letters, start))
+
+
+def all_toll_lists(rows, modulus):
+    """Yield every list of tolls of a table, as a dict by places."""
+    places = places_of(rows)
+    choices = list(itertools.product(range(modulus), repeat=len(rows)))
+    for tolls in itertools.product(choices, repeat=len(places)):
+        yield dict(zip(places, tolls))
+
+
+def least_by_search(town, one, other, most):
+    """Return the index, the modulus and the rows of the least toll towns, up to a sum of index and modulus, or None."""
+    for total in range(2, most + 1):
+        for index in range(1, total):
+            for rows in normal_tables(len(town.letters), index):
+                for tolls in all_toll_lists(rows, total - index):
+                    if (is_parted_by_steps(town.letters, rows, total - index, tolls, one, other)
+                            and is_kept_by_steps(town, rows, total - index, tolls)):
+                        return index, total - index, rows
+    return None

@@ -2,15 +2,33 @@
 
 import unittest
 
+from roundswap.chains import applied
 from roundswap.errors import ParseError
 from roundswap.phrases import format_word, read_word
 from roundswap.sums import is_sum
 from roundswap.tables import Table
 from roundswap.tolls import TollTown
 from roundswap.towns import Town
+from roundswap.verdicts import decide, is_even
 
 
 class ExamplesTest(unittest.TestCase):
+    def test_verdicts(self):
+        town = Town("ta", ("taT", "aa"))
+        found = [decide(town, "a", "").told(), decide(town, "aaa", "").told(), decide(town, "ttaTT", "aaaa").told()]
+        self.assertEqual(found, ["parted: 2 places, modulus 3", "parted: 4 places, modulus 5", "even"])
+
+    def test_verdicts_without_rules(self):
+        town = Town("ab")
+        found = [decide(town, "abAB", "").told(), is_even(town, "abABbaBA", "baBAabAB"), is_even(town, "abAB", "babABB")]
+        self.assertEqual(found, ["parted: 2 places, modulus 2", True, False])
+
+    def test_steps(self):
+        town = Town("ab", ("aa", ""))
+        found = [applied(town, "aabaaB", ("swap", 0, 2, 4)), applied(town, "ab", ("put", 1, "B")),
+                 applied(town, "b", ("rule", 0, False, 1))]
+        self.assertEqual(found, ["baaBaa", "aBbb", "baa"])
+
     def test_phrases(self):
         found = [read_word("[a, b]^2 (a b)^-1", "ab"), format_word("aaBBBa"), format_word("")]
         self.assertEqual(found, ["abABabABBA", "a^2 b^-3 a", "1"])

@@ -26,6 +26,13 @@ INTERFACE = {
               "TollTown.end", "TollTown.parts", "TollTown.fault", "TollTown.keeps", "TollTown.__eq__",
               "TollTown.__repr__", "toll_count"],
     "sums": ["is_sum", "size_of_sum", "sum_within"],
+    "verdicts": ["decide", "Verdict", "Verdict.town", "Verdict.one", "Verdict.other", "Verdict.told", "Verdict.__repr__",
+                 "Verdict.__bool__", "Even", "Even.rows", "Even.told", "Parted", "Parted.toll_town", "Parted.told",
+                 "is_even", "commute", "least_power", "unlike_rule"],
+    "chains": ["applied", "walked", "is_chain", "chain_of"],
+    "turning": ["turner", "rolled", "word_of"],
+    "leads": ["Lead", "Lead.same", "Lead.source", "Lead.target", "Lead.words", "Lead.image", "Lead.__call__", "Lead.keeps",
+              "Lead.fault", "Lead.then", "Lead.alike", "Lead.__eq__", "Lead.__repr__"],
 }
 BUILTINS = set("""
     len range enumerate zip min max sum abs sorted reversed int str bool bytes list tuple dict set frozenset isinstance
@@ -156,7 +163,25 @@ class LanguageTest(unittest.TestCase):
             self.assertEqual({other for one, other in marked if one == name}, {decorator})
 
     def test_l6_statements(self):
-        self.assertEqual(nodes((ast.AsyncFunctionDef, ast.Global)), [])
+        allowed = (ast.FunctionDef, ast.ClassDef, ast.ImportFrom, ast.Assign, ast.AugAssign, ast.If, ast.While, ast.For,
+                   ast.Return, ast.Break, ast.Continue, ast.Pass, ast.Raise, ast.Delete, ast.Try, ast.Expr)
+        for at, node in nodes(ast.stmt):
+            self.assertIsInstance(node, allowed, at)
+            if isinstance(node, ast.Expr) and not isinstance(node.value, (ast.Call, ast.Yield, ast.YieldFrom)):
+                self.assertIsInstance(node.value.value, str, at)
+
+    def test_l6_finally_only_assigns_names_and_literals(self):
+        for at, node in nodes(ast.Try):
+            for part in node.finalbody:
+                self.assertIsInstance(part, ast.Assign, at)
+                self.assertIsInstance(part.value, (ast.Name, ast.Constant), at)
+
+    def test_l7_generators_stand_nowhere_as_expressions(self):
+        self.assertEqual(nodes(ast.GeneratorExp), [])
+
+    def test_l13_lambdas(self):
+        lines = [at for at, node in nodes(ast.Lambda)]
+        self.assertEqual(len(lines), len(set(lines)))
 
     def test_l7_expressions(self):
         self.assertEqual([at for at, node in nodes(ast.Constant) if isinstance(node.value, float)], [])
@@ -207,11 +232,62 @@ class LanguageTest(unittest.TestCase):
         methods, stored = methods_and_attributes()
         self.assertEqual(methods & stored, set())
 
+    def test_l19_handlers_name_own_errors(self):
+        own = {name.split(".")[0] for name in defined_in("errors")}
+        for at, node in nodes(ast.ExceptHandler):
+            names = node.type.elts if isinstance(node.type, ast.Tuple) else [node.type]
+            self.assertEqual({ast.unparse(name) for name in names} - own, set(), at)
+
+    def test_l19_raise_makes_its_error(self):
+        own = {name.split(".")[0] for name in defined_in("errors")}
+        for at, node in nodes(ast.Raise):
+            if node.exc is not None:
+                self.assertIsInstance(node.exc, ast.Call, at)
+                self.assertIn(ast.unparse(node.exc.func), own, at)
+
     def test_l20_is(self):
         for at, node in nodes(ast.Compare):
             for sign, right in zip(node.ops, node.comparators):
                 if isinstance(sign, (ast.Is, ast.IsNot)):
                     self.assertIn(ast.unparse(right), ("None", "True", "False"), at)
+
+    def test_l22_calls_pass_what_functions_take(self):
+        functions = {}
+        for at, node in nodes(ast.Module):
+            functions |= {part.name: part.args for part in node.body if isinstance(part, ast.FunctionDef)}
+        for at, node in nodes(ast.Call):
+            if isinstance(node.func, ast.Name) and node.func.id in functions:
+                takes = functions[node.func.id]
+                least = len(takes.args) - len(takes.defaults)
+                given = len(node.args) + len(node.keywords)
+                known = {one.arg for one in takes.args + takes.kwonlyargs}
+                self.assertLessEqual(least, given, at)
+                self.assertLessEqual(given, len(known), at)
+                self.assertEqual({one.arg for one in node.keywords} - known, set(), at)
+
+    def test_l22_keywords_of_builtins(self):
+        allowed = {"sorted": {"key", "reverse"}, "min": {"key", "default"}, "max": {"key", "default"},
+                   "sum": {"start"}, "enumerate": {"start"}, "zip": {"strict"}}
+        for at, node in nodes(ast.Call):
+            if isinstance(node.func, ast.Name) and node.func.id in BUILTINS:
+                self.assertEqual({one.arg for one in node.keywords} - allowed.get(node.func.id, set()), set(), at)
+
+    def test_l23_loops_do_not_change_what_they_iterate_over(self):
+        changing = {"append", "clear", "extend", "insert", "pop", "remove", "reverse", "setdefault", "update", "sort"}
+        for at, loop in nodes(ast.For):
+            iterated = {ast.unparse(loop.iter)}
+            if isinstance(loop.iter, ast.Call):
+                name = ast.unparse(loop.iter.func).split(".")[-1]
+                if name in ("enumerate", "zip", "reversed"):
+                    iterated |= {ast.unparse(one) for one in loop.iter.args}
+                if name in ("items", "keys", "values"):
+                    iterated.add(ast.unparse(loop.iter.func.value))
+            for node in [one for part in loop.body for one in ast.walk(part)]:
+                if isinstance(node, ast.Call) and isinstance(node.func, ast.Attribute) and node.func.attr in changing:
+                    self.assertNotIn(ast.unparse(node.func.value), iterated, at)
+                if isinstance(node, (ast.Subscript, ast.Name, ast.Attribute)) and not isinstance(node.ctx, ast.Load):
+                    changed = node.value if isinstance(node, ast.Subscript) else node
+                    self.assertNotIn(ast.unparse(changed), iterated, at)
 
     def test_l23_no_other_function_has_the_name_of_a_generator(self):
         functions = [node for at, node in nodes(ast.FunctionDef)]
