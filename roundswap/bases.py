@@ -134,6 +134,12 @@ class Basis:
         while remainder.rest and self.spent < limit:
             self.reduce_once(remainder)
 
+    def reduce_head(self, remainder, effort):
+        """Reduce a walk until its greatest street is left as it is, for about so many terms."""
+        limit = self.spent + effort
+        while remainder.rest and not remainder.fixed and self.spent < limit:
+            self.reduce_once(remainder)
+
     def reduce_once(self, remainder):
         """Make the number of the greatest street smaller, or leave the street as it is."""
         street = max(remainder.rest)

@@ -32,12 +32,18 @@ class Judge:
         if self.home.place_of(one) != self.home.place_of(other):
             return None
         remainder = Remainder(self.basis.walk_between(one, other), [])
+        if self.is_reduced(remainder, FIRST_EFFORT):
+            return self.short_rows(remainder, one, other)
+        if self.is_settled(remainder):
+            return None
+        return self.search(remainder, one, other)
+
+    def search(self, remainder, one, other):
+        """Return a sum for two words, or None, where the basis does not know it at once."""
         region = Region(self.basis, one, other)
         difference = Difference(self.home.letters, one, other)
         index = turn = 1
-        while not self.is_reduced(remainder, FIRST_EFFORT * turn * turn):
-            if self.is_settled(remainder):
-                return None
+        while not self.is_settled(remainder) and not region.closed:
             places = 0
             while places < FIRST_PLACES * turn * turn:
                 if self.survey.separates_at(difference, index):
@@ -45,36 +51,35 @@ class Judge:
                 places = places + self.survey.effort_for(index)
                 index = index + 1
             # Regions are slow for words that are not even, so the others go ahead.
-            terms = region.search(FIRST_TERMS * (turn - 1))
+            terms = region.near_sum(FIRST_TERMS * (turn - 1))
             if terms is not None:
                 return rows_of_terms(self.home, self.basis.grid, terms)
-            if region.closed:
-                return None
             turn = turn + 1
-        return self.short_rows(remainder, region)
+            if self.is_reduced(remainder, FIRST_EFFORT * turn * turn):
+                return self.short_rows(remainder, one, other)
+        return None
 
     def is_reduced(self, remainder, effort):
         """Go on with the basis, and return whether a walk is reduced to nothing by it."""
         self.basis.work(effort)
         remainder.again()
-        self.basis.reduce_all(remainder, effort)
+        self.basis.reduce_head(remainder, effort)
         return not remainder.rest and not remainder.fixed
 
     def is_settled(self, remainder):
-        """Return whether no other member of the basis can reduce what is left of a walk."""
-        return self.basis.is_complete() and not remainder.rest
+        """Return whether the greatest street that is left of a walk stays there, whatever is still done."""
+        return self.basis.is_complete() and len(remainder.fixed) > 0
 
-    def short_rows(self, remainder, region):
+    def short_rows(self, remainder, one, other):
         """Return the rows of the sum by which a walk was reduced, or of a shorter sum nearby."""
         added_up = self.basis.rules_of(remainder.recipe)
-        terms = {term: -count for term, count in added_up.items()}
-        rows = rows_of_terms(self.home, self.basis.grid, terms)
+        rows = rows_of_terms(self.home, self.basis.grid, {term: -count for term, count in added_up.items()})
         if size_of_sum(rows) <= SHORT:
             return rows
-        nearby = region.search(FIRST_TERMS)
-        if nearby is None:
+        terms = Region(self.basis, one, other).near_sum(FIRST_TERMS)
+        if terms is None:
             return rows
-        return min([rows, rows_of_terms(self.home, self.basis.grid, nearby)], key=size_of_sum)
+        return min([rows, rows_of_terms(self.home, self.basis.grid, terms)], key=size_of_sum)
 
     def least_toll_town(self, one, other):
         """Return one of the least toll towns that part two words, which are not even."""

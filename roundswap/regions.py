@@ -21,7 +21,7 @@ class Region:
             for place in places_on(basis, word):
                 self.inside[place] = True
 
-    def search(self, most):
+    def near_sum(self, most):
         """Return a sum of moved rules if at most so many terms are near and there is one, or None. Then grow."""
         if self.closed or len(self.inside) * len(self.basis.sources) > most:
             return None

@@ -4,7 +4,7 @@ from roundswap.checks import is_number, is_number_tuple
 from roundswap.errors import Endless, InvalidNumber, InvalidTolls, TooWide, Unlike
 from roundswap.remainders import index_modulo
 from roundswap.tables import added
-from roundswap.walks import Walk, begin_of, check_width, street_of
+from roundswap.walks import begin_of, check_width, street_of, walk_along
 from roundswap.words import check_words, counts_of
 
 MOST_PLACES = 64
@@ -47,7 +47,7 @@ class TollTown:
 
     def end(self, word, letters, *, start=None):
         """Return the pair of the place and the toll behind a word."""
-        walk = Walk.of(self.ground, word, letters, start=start)
+        walk = walk_along(self.ground, word, letters, start)
         begin = begin_of(self.ground, start)
         behind = self.ground.place(added(begin, counts_of(word, letters)))
         paid = sum([number * self.fees[place][letter] for place, letter, number in walk.streets()])
@@ -102,7 +102,7 @@ def rows_of(town, table):
     order = {place: at for at, place in enumerate(table.places())}
     rows = []
     for one, other in town.rules():
-        walk = Walk.of(table, one, town.letters).minus(Walk.of(table, other, town.letters))
+        walk = walk_along(table, one, town.letters, None).minus(walk_along(table, other, town.letters, None))
         rows.extend([row_of(walk.moved(place), order) for place in order])
     return rows
 

@@ -4,7 +4,7 @@ from roundswap.checks import is_number_from
 from roundswap.errors import InvalidLetters, InvalidRule, ParseError, TooLong, UnknownRule, Unlike
 from roundswap.phrases import LONGEST, format_word, read_word
 from roundswap.tables import WIDEST, Table, less
-from roundswap.walks import Walk
+from roundswap.walks import walk_along
 from roundswap.words import check_words, counts_of, is_word
 
 LONGEST_SIDE = 16
@@ -27,10 +27,7 @@ class Town:
     @classmethod
     def read(cls, text):
         """Return the town with a text."""
-        first, *parts = text.split(";")
-        letters = first.strip(" ")
-        check_letters(letters)
-        rules = read_rules(parts, letters)
+        letters, rules = parts_of_text(text)
         return cls(letters, *rules)
 
     @property
@@ -64,7 +61,7 @@ class Town:
 
     def walk_of(self, word, *, start=None):
         """Return the walk of a word in the table."""
-        return Walk.of(self.ground, word, self.alphabet, start=start)
+        return walk_along(self.ground, word, self.alphabet, start)
 
     def moved_rule(self, number, counts):
         """Return the walk of the first side of a rule less that of its second side, moved."""
@@ -111,6 +108,20 @@ class Town:
 
     def __repr__(self):
         return f"Town({len(self.alphabet)} letters, {len(self.pairs)} rules)"
+
+
+def read_town(text):
+    """Return the town with a text."""
+    letters, rules = parts_of_text(text)
+    return Town(letters, *rules)
+
+
+def parts_of_text(text):
+    """Return the letters and the rules of the text of a town."""
+    first, *parts = text.split(";")
+    letters = first.strip(" ")
+    check_letters(letters)
+    return letters, read_rules(parts, letters)
 
 
 def check_letters(letters):

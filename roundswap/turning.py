@@ -3,7 +3,7 @@
 from roundswap.errors import InvalidTable, NoWord
 from roundswap.rounds import Rounds
 from roundswap.tables import Table, added, lead_at, less
-from roundswap.walks import Walk, check_width
+from roundswap.walks import Walk, check_width, walk_along
 from roundswap.words import check_words, counts_of, path_to
 
 
@@ -19,7 +19,7 @@ def turner(letters, one, other):
     # The turning word goes forth and, one turn of the word later, back. So what
     # lies between both walks is its walk less the same walk one turn later.
     table = Table(len(letters))
-    between = Walk.of(table, other, letters).minus(Walk.of(table, one, letters, start=by))
+    between = walk_along(table, other, letters, None).minus(walk_along(table, one, letters, by))
     return word_of(letters, unrolled(between, turn))
 
 
@@ -55,7 +55,7 @@ def rolled(letters, word):
     """Return the walk of a word in the table with its counts as the only row."""
     check_words([word], letters)
     table = Table(len(letters), [counts_of(word, letters)])
-    return Walk.of(table, word, letters)
+    return walk_along(table, word, letters, None)
 
 
 def word_of(letters, walk):

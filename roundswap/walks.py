@@ -19,10 +19,7 @@ class Walk:
     @classmethod
     def of(cls, table, word, letters, *, start=None):
         """Return the walk of a word from a place."""
-        check_width(letters, table)
-        check_words([word], letters)
-        begin = begin_of(table, start)
-        return cls(table, steps_of(word, letters, begin))
+        return cls(table, checked_steps(table, word, letters, start))
 
     @property
     def table(self):
@@ -74,6 +71,19 @@ class Walk:
 
     def __repr__(self):
         return f"Walk({len(self.numbers)} streets)"
+
+
+def walk_along(table, word, letters, start):
+    """Return the walk of a word from a place, or from the place of zeros if the start is None."""
+    return Walk(table, checked_steps(table, word, letters, start))
+
+
+def checked_steps(table, word, letters, start):
+    """Return (place, letter, number) for each step of a word that is one for the letters of the table."""
+    check_width(letters, table)
+    check_words([word], letters)
+    begin = begin_of(table, start)
+    return steps_of(word, letters, begin)
 
 
 def check_width(letters, table):

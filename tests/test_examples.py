@@ -1,7 +1,8 @@
-"""The examples of the document that concern the modules that exist."""
+"""The examples of the document."""
 
 import unittest
 
+from roundswap.atlas import Atlas
 from roundswap.chains import applied
 from roundswap.errors import ParseError
 from roundswap.phrases import format_word, read_word
@@ -52,6 +53,12 @@ class ExamplesTest(unittest.TestCase):
         tolls = TollTown(Table(2, [(2, 0), (0, 1)]), 3, [(0, 1), (0, 2)])
         found = [tolls.keeps(Town("ta", ("taT", "aa"))), tolls.end("at", "ta"), tolls.end("ta", "ta")]
         self.assertEqual(found, [True, ((1, 0), 1), ((1, 0), 2)])
+
+    def test_atlas(self):
+        atlas = Atlas()
+        atlas.apply(("town", "m", Town("ab", ("aa", ""))), ("claim", "swap", "even", "m", "aabaaB", "baaBaa"))
+        found = [atlas.holds("swap"), atlas.kept(), atlas.decided]
+        self.assertEqual(found, [True, [("m", "aabaaB", "baaBaa")], 1])
 
     def test_text_of_a_town(self):
         self.assertEqual(Town("ta", ("taT", "aa")).text(), "ta; t a t^-1 = a^2")

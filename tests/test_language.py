@@ -33,6 +33,13 @@ INTERFACE = {
     "turning": ["turner", "rolled", "word_of"],
     "leads": ["Lead", "Lead.same", "Lead.source", "Lead.target", "Lead.words", "Lead.image", "Lead.__call__", "Lead.keeps",
               "Lead.fault", "Lead.then", "Lead.alike", "Lead.__eq__", "Lead.__repr__"],
+    "firsts": ["first_word", "first_words"],
+    "atlas": ["Atlas", "Atlas.MOST", "Atlas.limit", "Atlas.change_limit", "Atlas.apply", "Atlas.undo", "Atlas.redo",
+              "Atlas.history", "Atlas.busy", "Atlas.names", "Atlas.labels", "Atlas.town_of", "Atlas.claim_of",
+              "Atlas.verdict", "Atlas.holds", "Atlas.broken", "Atlas.kept", "Atlas.decided", "Atlas.twin",
+              "Atlas.__len__", "Atlas.__contains__", "Atlas.__eq__", "GuardedAtlas"],
+    "pages": ["format_atlas", "parse_atlas"],
+    "desks": ["Desk", "Desk.atlas", "Desk.ask", "Desk.__call__", "Desk.log"],
 }
 BUILTINS = set("""
     len range enumerate zip min max sum abs sorted reversed int str bool bytes list tuple dict set frozenset isinstance
@@ -74,11 +81,27 @@ def nodes(kind):
     return found
 
 
+def own_methods():
+    """Return the definitions of all methods, properties included."""
+    return [part for at, one in nodes(ast.ClassDef) for part in one.body if isinstance(part, ast.FunctionDef)]
+
+
 def methods_and_attributes():
-    """Return the names of all own methods, and those of all attributes that are assigned."""
-    methods = {part.name for at, one in nodes(ast.ClassDef) for part in one.body if isinstance(part, ast.FunctionDef)}
-    stored = {node.attr for at, node in nodes(ast.Attribute) if isinstance(node.ctx, ast.Store)}
-    return methods, stored
+    """Return the names of all own methods, and those of all attributes that are assigned.
+
+    Errors have attributes that other classes may have as properties.
+    """
+    methods = {part.name for part in own_methods()}
+    stored = {node.attr for at, node in nodes(ast.Attribute)
+              if isinstance(node.ctx, ast.Store) and not at.startswith("errors.py")}
+    setters = {part.name for part in own_methods() if any(".setter" in ast.unparse(one) for one in part.decorator_list)}
+    return methods, stored - setters
+
+
+def attributes_of_errors():
+    """Return the names of all attributes of errors."""
+    return {node.attr for at, node in nodes(ast.Attribute)
+            if isinstance(node.ctx, ast.Store) and at.startswith("errors.py")}
 
 
 def class_values():
@@ -145,7 +168,11 @@ class LanguageTest(unittest.TestCase):
                 self.assertIsInstance(node, allowed, name)
                 if isinstance(node, ast.Assign):
                     self.assertEqual([type(one) for one in node.targets], [ast.Name], name)
-                    ast.literal_eval(node.value)
+                    above = {one.name for one in body if isinstance(one, ast.FunctionDef) and one.lineno < node.lineno}
+                    names = {one.id for one in ast.walk(node.value) if isinstance(one, ast.Name)}
+                    self.assertEqual(names - above, set(), name)
+                    calls = [one for one in ast.walk(node.value) if isinstance(one, (ast.Call, ast.Attribute))]
+                    self.assertEqual(calls, [], name)
 
     def test_l4_l5_decorators_and_special_methods(self):
         for at, node in nodes((ast.FunctionDef, ast.ClassDef)):
@@ -155,12 +182,20 @@ class LanguageTest(unittest.TestCase):
 
     def test_l5_names_of_properties_and_class_methods(self):
         methods, stored = methods_and_attributes()
-        functions = [part for at, one in nodes(ast.ClassDef) for part in one.body if isinstance(part, ast.FunctionDef)]
-        marked = {(part.name, ast.unparse(part.decorator_list[0])) for part in functions if part.decorator_list}
+        functions = own_methods()
+        marked = {(part.name, ast.unparse(part.decorator_list[0]).split(".")[-1].replace("setter", "property"))
+                  for part in functions if part.decorator_list}
         taken = {part.name for part in functions if not part.decorator_list} | stored | class_values() | METHODS
         for name, decorator in marked:
             self.assertNotIn(name, taken)
             self.assertEqual({other for one, other in marked if one == name}, {decorator})
+
+    def test_l5_no_method_is_read_off_a_class(self):
+        # Otherwise no property could have the name of an attribute of an error.
+        classes = {node.name for at, node in nodes(ast.ClassDef)}
+        for at, node in nodes(ast.Attribute):
+            if isinstance(node.value, ast.Name) and node.value.id in classes:
+                self.assertIn(node.attr, class_values(), at)
 
     def test_l6_statements(self):
         allowed = (ast.FunctionDef, ast.ClassDef, ast.ImportFrom, ast.Assign, ast.AugAssign, ast.If, ast.While, ast.For,
@@ -231,6 +266,8 @@ class LanguageTest(unittest.TestCase):
     def test_l18_no_name_is_a_method_and_an_attribute(self):
         methods, stored = methods_and_attributes()
         self.assertEqual(methods & stored, set())
+        plain = {part.name for part in own_methods() if not part.decorator_list}
+        self.assertEqual(plain & attributes_of_errors(), set())
 
     def test_l19_handlers_name_own_errors(self):
         own = {name.split(".")[0] for name in defined_in("errors")}
@@ -256,7 +293,8 @@ class LanguageTest(unittest.TestCase):
         for at, node in nodes(ast.Module):
             functions |= {part.name: part.args for part in node.body if isinstance(part, ast.FunctionDef)}
         for at, node in nodes(ast.Call):
-            if isinstance(node.func, ast.Name) and node.func.id in functions:
+            starred = any(isinstance(one, ast.Starred) for one in node.args)
+            if isinstance(node.func, ast.Name) and node.func.id in functions and not starred:
                 takes = functions[node.func.id]
                 least = len(takes.args) - len(takes.defaults)
                 given = len(node.args) + len(node.keywords)
@@ -308,7 +346,7 @@ class LanguageTest(unittest.TestCase):
 
     def test_l25_methods(self):
         methods, stored = methods_and_attributes()
-        known = METHODS | methods | stored | class_values()
+        known = METHODS | methods | stored | class_values() | attributes_of_errors() | {"setter"}
         for at, node in nodes(ast.Attribute):
             self.assertIn(node.attr, known, at)
 

@@ -112,31 +112,31 @@ class RegionTest(unittest.TestCase):
             one = random_word(source, town.letters, 0, 10)
             other, taken = steps_away(source, town, one, 10, 40)
             region = Region(basis, one, other)
-            terms = region.search(2000)
+            terms = region.near_sum(2000)
             if terms is None:
-                terms = region.search(2000)
+                terms = region.near_sum(2000)
             self.assertTrue(is_sum_by_steps(town, one, other, rows_of_terms(town, basis.grid, terms)))
 
     def test_a_closed_region(self):
         town = Town("ab", ("aaa", ""), ("bb", ""))
         region = Region(basis_of(town), "ab", "ba")
-        found = [region.search(100), region.closed]
+        found = [region.near_sum(100), region.closed]
         while not region.closed:
-            found += [region.search(100), region.closed]
+            found += [region.near_sum(100), region.closed]
         self.assertEqual((found[:2], found[-2:]), ([None, False], [None, True]))
         self.assertEqual(len(region.inside), 6)
-        self.assertIsNone(region.search(100))
+        self.assertIsNone(region.near_sum(100))
 
     def test_a_region_that_grows(self):
         town = Town("ab", ("ab", "ba"))
         region = Region(basis_of(town), "a" * 6 + "b" * 6, "b" * 6 + "a" * 6)
-        self.assertIsNone(region.search(23))
+        self.assertIsNone(region.near_sum(23))
         self.assertEqual(len(region.inside), 24)
-        self.assertIsNone(region.search(24))
+        self.assertIsNone(region.near_sum(24))
         self.assertGreater(len(region.inside), 24)
-        self.assertIsNone(region.search(1000))
-        self.assertIsNone(region.search(1000))
-        self.assertEqual(len(region.search(1000)), 36)
+        self.assertIsNone(region.near_sum(1000))
+        self.assertIsNone(region.near_sum(1000))
+        self.assertEqual(len(region.near_sum(1000)), 36)
 
     def test_near_counts(self):
         self.assertEqual(near_counts([(5,)], (4,)), (-1,))
