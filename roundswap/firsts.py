@@ -19,7 +19,7 @@ def first_word(town, word):
     letters = town.letters
     for length in range(len(short)):
         for candidate in words_of(letters, length):
-            if judge.find_sum(candidate, short) is not None:
+            if judge.is_even(candidate, short):
                 return candidate
     return first_of_length(judge, letters, short)
 
@@ -28,7 +28,7 @@ def first_of_length(judge, letters, short):
     """Return the first word of the same length that is even with a word, at last the word itself."""
     length = len(short)
     for candidate in words_of(letters, length):
-        if candidate == short or judge.find_sum(candidate, short) is not None:
+        if candidate == short or judge.is_even(candidate, short):
             return candidate
     return short
 
@@ -51,6 +51,6 @@ def first_words(town, most):
 def is_new(judge, earlier, word):
     """Return whether a word is even with none of the earlier ones."""
     for other in earlier:
-        if judge.find_sum(other, word) is not None:
+        if judge.is_even(other, word):
             return False
     return True

@@ -13,10 +13,26 @@ from roundswap.sieves import Sieve
 from roundswap.sums import size_of_sum
 from roundswap.surveys import Difference, Survey
 
-FIRST_EFFORT = 2000
-FIRST_PLACES = 60
+FIRST_EFFORT = 4000
+FIRST_PLACES = 50
 FIRST_TERMS = 250
+MOST_TERMS = 3000
 SHORT = 40
+SMALL_BITS = 64
+
+
+class Case:
+    """Two words that end at one place, and what a judge found out about them.
+
+    `remainder` is what is left of the walk between them. The terms are those of
+    a sum, if one was found near the words.
+    """
+
+    def __init__(self, basis, one, other):
+        self.left = one
+        self.right = other
+        self.remainder = Remainder(basis.walk_between(one, other), [])
+        self.terms = None
 
 
 class Judge:
@@ -27,37 +43,47 @@ class Judge:
         self.basis = Basis(town.letters, Grid(town.table), town.rules())
         self.survey = Survey(town)
 
+    def is_even(self, one, other):
+        """Return whether two words are even."""
+        if self.home.place_of(one) != self.home.place_of(other):
+            return False
+        return self.is_case_even(Case(self.basis, one, other))
+
     def find_sum(self, one, other):
         """Return a sum for two words, or None if they are not even."""
         if self.home.place_of(one) != self.home.place_of(other):
             return None
-        remainder = Remainder(self.basis.walk_between(one, other), [])
-        if self.is_reduced(remainder, FIRST_EFFORT):
-            return self.short_rows(remainder, one, other)
-        if self.is_settled(remainder):
+        case = Case(self.basis, one, other)
+        if not self.is_case_even(case):
             return None
-        return self.search(remainder, one, other)
+        if case.terms is not None:
+            return self.rows_of(case.terms)
+        return self.short_rows(case)
 
-    def search(self, remainder, one, other):
-        """Return a sum for two words, or None, where the basis does not know it at once."""
-        region = Region(self.basis, one, other)
-        difference = Difference(self.home.letters, one, other)
+    def is_case_even(self, case):
+        """Return whether the two words of a case are even."""
+        if self.is_reduced(case.remainder, FIRST_EFFORT):
+            return True
+        return not self.is_settled(case.remainder) and self.is_found_even(case)
+
+    def is_found_even(self, case):
+        """Return whether two words are even, where the basis does not know it at once."""
+        region = Region(self.basis, case.left, case.right)
+        difference = Difference(self.home.letters, case.left, case.right)
         index = turn = 1
-        while not self.is_settled(remainder) and not region.closed:
+        while not self.is_settled(case.remainder) and not region.closed:
             places = 0
             while places < FIRST_PLACES * turn * turn:
                 if self.survey.separates_at(difference, index):
-                    return None
+                    return False
                 places = places + self.survey.effort_for(index)
                 index = index + 1
             # Regions are slow for words that are not even, so the others go ahead.
-            terms = region.near_sum(FIRST_TERMS * (turn - 1))
-            if terms is not None:
-                return rows_of_terms(self.home, self.basis.grid, terms)
+            case.terms = region.near_sum(FIRST_TERMS * (turn - 1))
             turn = turn + 1
-            if self.is_reduced(remainder, FIRST_EFFORT * turn * turn):
-                return self.short_rows(remainder, one, other)
-        return None
+            if case.terms is not None or self.is_reduced(case.remainder, FIRST_EFFORT * turn * turn):
+                return True
+        return False
 
     def is_reduced(self, remainder, effort):
         """Go on with the basis, and return whether a walk is reduced to nothing by it."""
@@ -70,16 +96,37 @@ class Judge:
         """Return whether the greatest street that is left of a walk stays there, whatever is still done."""
         return self.basis.is_complete() and len(remainder.fixed) > 0
 
-    def short_rows(self, remainder, one, other):
-        """Return the rows of the sum by which a walk was reduced, or of a shorter sum nearby."""
-        added_up = self.basis.rules_of(remainder.recipe)
-        rows = rows_of_terms(self.home, self.basis.grid, {term: -count for term, count in added_up.items()})
-        if size_of_sum(rows) <= SHORT:
-            return rows
-        terms = Region(self.basis, one, other).near_sum(FIRST_TERMS)
+    def rows_of(self, terms):
+        """Return the rows of a sum with counts by terms."""
+        return rows_of_terms(self.home, self.basis.grid, terms)
+
+    def rows_of_recipe(self, case):
+        """Return the rows of the sum by which the walk of a case was reduced."""
+        added_up = self.basis.rules_of(case.remainder.recipe)
+        return self.rows_of({term: -count for term, count in added_up.items()})
+
+    def short_rows(self, case):
+        """Return the rows of a sum for even words: that by which their walk was reduced, or a shorter one nearby."""
+        region = Region(self.basis, case.left, case.right)
+        if max(self.basis.bits, default=0) > SMALL_BITS:
+            return self.rows_nearby(case, region)
+        rows = self.rows_of_recipe(case)
+        terms = region.near_sum(FIRST_TERMS) if size_of_sum(rows) > SHORT else None
         if terms is None:
             return rows
-        return min([rows, rows_of_terms(self.home, self.basis.grid, terms)], key=size_of_sum)
+        return min([rows, self.rows_of(terms)], key=size_of_sum)
+
+    def rows_nearby(self, case, region):
+        """Return the rows of a sum in a region that grows, or those of the recipe if they are too far away.
+
+        The numbers of such a recipe would be great.
+        """
+        terms = region.near_sum(MOST_TERMS)
+        while terms is None and not region.closed and region.many_terms() <= MOST_TERMS:
+            terms = region.near_sum(MOST_TERMS)
+        if terms is None:
+            return self.rows_of_recipe(case)
+        return self.rows_of(terms)
 
     def least_toll_town(self, one, other):
         """Return one of the least toll towns that part two words, which are not even."""

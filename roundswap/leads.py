@@ -62,7 +62,7 @@ class Lead:
     def is_kept(self, judge, rule):
         """Return whether the images of both sides of a rule are even, as a judge of the target finds."""
         one, other = rule
-        return judge.find_sum(self.image(one), self.image(other)) is not None
+        return judge.is_even(self.image(one), self.image(other))
 
     def then(self, other):
         """Return the lead that leads first by this one, then by another one, with shortened words."""
@@ -76,7 +76,7 @@ class Lead:
             raise Unlike()
         judge = Judge(self.goal_town)
         for one, word in zip(self.pictures, other.words()):
-            if judge.find_sum(one, word) is None:
+            if not judge.is_even(one, word):
                 return False
         return True
 

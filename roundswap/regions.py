@@ -23,11 +23,15 @@ class Region:
 
     def near_sum(self, most):
         """Return a sum of moved rules if at most so many terms are near and there is one, or None. Then grow."""
-        if self.closed or len(self.inside) * len(self.basis.sources) > most:
+        if self.closed or self.many_terms() > most:
             return None
         found = self.solve()
         self.grow()
         return found
+
+    def many_terms(self):
+        """Return the number of rules moved to places inside."""
+        return len(self.inside) * len(self.basis.sources)
 
     def solve(self):
         """Return a sum of the rules moved to the places inside, or None."""

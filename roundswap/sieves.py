@@ -32,8 +32,8 @@ class Sieve:
     def smallest_modulus(self, bound):
         """Return a number up to a bound that no modulus of a toll town that parts the words is less than.
 
-        If the walk between them, so many times, is a sum of moved rules, such a
-        modulus has a divisor with this number.
+        If the walk between them, as many times as its order tells, is a sum of
+        moved rules, every such modulus has a divisor in common with the order.
         """
         if not self.useful or self.order == 0:
             return 1

@@ -25,8 +25,12 @@ class Field:
         self.wide = town.width
         places = list(Table(town.width, rows).places())
         self.many = len(places)
-        streets = [streets_between(town.letters, one, other) for one, other in town.rules()]
-        walks = [self.numbered(some, place) for some in streets for place in places]
+        walks = []
+        sums = {}
+        for one, other in town.rules():
+            walk = self.numbered(streets_between(town.letters, one, other))
+            self.add_sums(sums, walk, places)
+            walks.extend([self.moved_to(walk, sums, at) for at in range(self.many)])
         self.scheme = Scheme(walks, self.many * self.wide)
 
     def place_number(self, counts):
@@ -38,17 +42,25 @@ class Field:
             number = number * row[at] + rest[at]
         return number
 
-    def numbered(self, streets, by):
-        """Return a walk with its places moved, as a dict by the numbers of streets."""
+    def numbered(self, streets):
+        """Return a walk as a dict by the numbers of streets."""
         walk = {}
         for place, letter, number in streets:
-            street = self.place_number(added(place, by)) * self.wide + letter
+            street = self.place_number(place) * self.wide + letter
             walk[street] = walk.get(street, 0) + number
         return {street: number for street, number in walk.items() if number != 0}
 
-    def walk_seen(self, difference):
-        """Return the walk of a difference as a dict by the numbers of streets."""
-        return self.numbered(difference.between, (0,) * self.wide)
+    def add_sums(self, sums, walk, places):
+        """Put in, for each place of a walk that is new, the numbers of its sums with all places."""
+        for street in walk:
+            begin = street // self.wide
+            if begin not in sums:
+                sums[begin] = [self.place_number(added(places[begin], place)) for place in places]
+
+    def moved_to(self, walk, sums, at):
+        """Return a walk with its places moved by the place with a number."""
+        wide = self.wide
+        return {sums[street // wide][at] * wide + street % wide: number for street, number in walk.items()}
 
     def has_two_ends(self, difference):
         """Return whether two words end at different places."""
@@ -56,20 +68,20 @@ class Field:
 
     def separates(self, difference):
         """Return whether some toll town with this table parts two words."""
-        return self.has_two_ends(difference) or len(self.scheme.worth(self.walk_seen(difference))) > 0
+        return self.has_two_ends(difference) or len(self.scheme.worth(self.numbered(difference.between))) > 0
 
     def least_modulus(self, difference, bound):
         """Return the least modulus up to a bound of such a toll town, or None."""
         if self.has_two_ends(difference):
             return 1
-        found = self.scheme.least_for(self.walk_seen(difference), bound)
+        found = self.scheme.least_for(self.numbered(difference.between), bound)
         return None if found is None else found[0]
 
     def parting(self, difference, modulus):
         """Return a toll town with the least modulus that parts two words."""
         fees = [0] * (self.many * self.wide)
         if modulus > 1:
-            least, street = self.scheme.least_for(self.walk_seen(difference), modulus)
+            least, street = self.scheme.least_for(self.numbered(difference.between), modulus)
             fees = self.scheme.values_for(least, street, len(fees))
         rows = [tuple(fees[at * self.wide:(at + 1) * self.wide]) for at in range(self.many)]
         return TollTown(Table(self.wide, self.normal), modulus, rows)

@@ -12,6 +12,7 @@ class Verdict:
     """What is known about two words of a town; nothing yet."""
 
     def __init__(self, town, one, other):
+        check_words([one, other], town.letters)
         self.judged = town
         self.left = one
         self.right = other
@@ -100,7 +101,7 @@ def decide(town, one, other):
 def is_even(town, one, other):
     """Return whether two words are even."""
     check_words([one, other], town.letters)
-    return Judge(town).find_sum(one, other) is not None
+    return Judge(town).is_even(one, other)
 
 
 def commute(town, one, other):
@@ -116,7 +117,7 @@ def least_power(town, word, *, most=GREATEST_POWER):
         raise InvalidNumber(most)
     judge = Judge(town)
     for power in range(1, most + 1):
-        if judge.find_sum(word * power, "") is not None:
+        if judge.is_even(word * power, ""):
             return power
     return None
 
@@ -138,6 +139,6 @@ def first_broken(source, target):
     """Return the number of the first rule of a town whose sides are not even in another one, or None."""
     judge = Judge(target)
     for number, (one, other) in enumerate(source.rules()):
-        if judge.find_sum(one, other) is None:
+        if not judge.is_even(one, other):
             return number
     return None

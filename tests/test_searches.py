@@ -249,7 +249,8 @@ class JudgeTest(unittest.TestCase):
             town = random_town(source, width, many, 5)
             one = random_word(source, town.letters, 0, 8)
             other = "".join(source.sample(one, len(one)))
-            even = Judge(town).find_sum(one, other) is not None
+            even = Judge(town).is_even(one, other)
+            self.assertEqual(Judge(town).find_sum(one, other) is not None, even)
             slow = Judge(town)
             # Without the basis, only regions and surveys are left.
             with mock.patch.object(slow.basis, "work", lambda effort: None):
@@ -259,10 +260,25 @@ class JudgeTest(unittest.TestCase):
             if even:
                 self.assertTrue(is_sum_by_steps(town, one, other, rows))
 
+    def test_sums_of_bases_with_great_numbers(self):
+        # The recipes of this basis have great numbers, so that sums are looked for nearby.
+        town = Town("ab", ("BaaaBbaaBBbaBAA", "aaaAaabbA"), ("aAbaaA", "AbBABBbAbAbBAbA"))
+        judge = Judge(town)
+        judge.basis.work(10 ** 7)
+        self.assertGreater(max(judge.basis.bits), 64)
+        source = random.Random(11)
+        for turn in range(4):
+            one = random_word(source, "ab", 0, 10)
+            other, taken = steps_away(source, town, one, 10, 40)
+            rows = judge.find_sum(one, other)
+            self.assertTrue(is_sum_by_steps(town, one, other, rows))
+            self.assertLess(max([abs(count) for place, number, count in rows], default=0), 10 ** 9)
+
     def test_a_judge_may_be_asked_again(self):
         source = random.Random(10)
         town = Town("ta", ("taT", "aa"), ("aaaaaa", ""))
         judge = Judge(town)
         for turn in range(30):
             one, other = random_word(source, "ta", 0, 6), random_word(source, "ta", 0, 6)
-            self.assertEqual(judge.find_sum(one, other) is not None, bool(decide(town, one, other)))
+            even = bool(decide(town, one, other))
+            self.assertEqual((judge.is_even(one, other), judge.find_sum(one, other) is not None), (even, even))

@@ -251,6 +251,14 @@ class ClassesTest(VerdictCase):
         one_place = Parted(town, "a", "", TollTown(Table(1, [(1,)]), 1, [(0,)]))
         self.assertEqual(one_place.told(), "parted: 1 places, modulus 1")
 
+    def test_made_with_strings_that_are_no_words(self):
+        town = Town("a")
+        barrier = TollTown(Table(1, [(1,)]), 1, [(0,)])
+        for made in [lambda one, other: Verdict(town, one, other), lambda one, other: Even(town, one, other, []),
+                     lambda one, other: Parted(town, one, other, barrier)]:
+            self.assertEqual(raised(lambda: made("b", "c")), ("InvalidWord", 0))
+            self.assertEqual(raised(lambda: made("a", "c")), ("InvalidWord", 1))
+
     def test_lists_are_copied(self):
         rows = [((0,), 0, 1)]
         verdict = Even(Town("a", ("a", "")), "a", "", rows)
